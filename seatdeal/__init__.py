@@ -1,0 +1,1 @@
+"""Seats of a council dealt out by votes."""
