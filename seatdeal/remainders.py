@@ -1,5 +1,6 @@
 """The deal by what is left over of the shares."""
 
+from seatdeal.deals import dealt
 from seatdeal.errors import NoVotes
 
 
@@ -22,21 +23,14 @@ def left_over(votes, seats):
     return [count * seats % total for count in votes]
 
 
-def places_of(part, parts):
-    return [place for place, other in enumerate(parts) if other == part]
+# A list with more than its whole share has got its seat for what is left over.
+def with_most_left_over(parts, whole, given):
+    waiting = [place for place, count in enumerate(given) if count == whole[place]]
+    most = max([parts[place] for place in waiting])
+    return [place for place in waiting if parts[place] == most]
 
 
 def by_remainders(votes, seats):
-    given = whole_seats(votes, seats)
+    whole = whole_seats(votes, seats)
     parts = left_over(votes, seats)
-    free = seats - sum(given)
-    for most in reversed(sorted(set(parts))):
-        if free == 0:
-            break
-        lists = places_of(most, parts)
-        if len(lists) > free:
-            return (given, lists, free)
-        for place in lists:
-            given[place] = given[place] + 1
-        free = free - len(lists)
-    return (given, [], 0)
+    return dealt(whole, seats - sum(whole), lambda given: with_most_left_over(parts, whole, given))

@@ -2,28 +2,9 @@ import itertools
 import unittest
 from fractions import Fraction
 
-from seatdeal.errors import NoLot, NoVotes, SeatError
+from helper import BIG, all_cases, assert_refused, large_cases, small_cases
+from seatdeal.errors import NoVotes
 from seatdeal.remainders import by_remainders, whole_seats
-
-BIG = 10**99
-
-
-def small_cases():
-    for lists in range(1, 5):
-        for votes in itertools.product(range(5), repeat=lists):
-            if any(votes):
-                for seats in range(8):
-                    yield list(votes), seats
-
-
-def large_cases():
-    for lists, seats in ((2, 1999), (7, 13), (40, 2000), (99, 57), (100, 1), (100, 2000)):
-        yield [pow(7, 3 * place + seats, BIG * 10 - 1) for place in range(lists)], seats
-        yield [pow(3, place, 11) - 1 for place in range(lists)], seats
-
-
-def all_cases():
-    return itertools.chain(small_cases(), large_cases())
 
 
 def shares(votes, seats):
@@ -72,7 +53,7 @@ class WholeSeats(unittest.TestCase):
         self.assertEqual(whole_seats([3], 2000), [2000])
 
     def test_is_the_greatest_whole_number_no_greater_than_the_share(self):
-        for votes, seats in all_cases():
+        for votes, seats in all_cases(most=2000):
             whole = whole_seats(votes, seats)
             self.assertEqual(len(whole), len(votes))
             for part, share in zip(whole, shares(votes, seats)):
@@ -81,25 +62,15 @@ class WholeSeats(unittest.TestCase):
 
 
 class Refusals(unittest.TestCase):
-    def assert_refused(self, votes, seats):
-        for deal in (whole_seats, by_remainders):
-            before = list(votes)
-            with self.assertRaises(NoVotes) as caught:
-                deal(votes, seats)
-            self.assertIs(type(caught.exception), NoVotes)
-            self.assertIsInstance(caught.exception, SeatError)
-            self.assertIsInstance(caught.exception, ValueError)
-            self.assertNotIsInstance(caught.exception, NoLot)
-            self.assertEqual(votes, before)
-
     def test_no_list(self):
         for seats in (0, 1, 2000):
-            self.assert_refused([], seats)
+            for call in (whole_seats, by_remainders):
+                assert_refused(self, NoVotes, call, [], seats)
 
     def test_all_votes_nought(self):
-        for lists in (1, 2, 100):
-            for seats in (0, 1, 2000):
-                self.assert_refused([0] * lists, seats)
+        for lists, seats in itertools.product((1, 2, 100), (0, 1, 2000)):
+            for call in (whole_seats, by_remainders):
+                assert_refused(self, NoVotes, call, [0] * lists, seats)
 
     def test_one_vote_is_enough(self):
         self.assertEqual(by_remainders([0, 1, 0], 0), ([0, 0, 0], [], 0))
@@ -178,48 +149,11 @@ class ByRemainders(unittest.TestCase):
         self.assertEqual(by_remainders([-1, 5], 4), ([-1, 5], [], 0))
 
     def test_as_the_words_say(self):
-        for votes, seats in all_cases():
+        for votes, seats in all_cases(most=2000):
             self.assertEqual(by_remainders(votes, seats), deal_by_the_words(votes, seats), (votes, seats))
 
 
-class DealForm(unittest.TestCase):
-    def test_kinds(self):
-        for votes, seats in all_cases():
-            deal = by_remainders(votes, seats)
-            self.assertIs(type(deal), tuple)
-            given, tied, free = deal
-            self.assertIs(type(given), list)
-            self.assertIs(type(tied), list)
-            self.assertEqual({type(number) for number in given + tied + [free]}, {int})
-
-    def test_seats_add_up_and_ties_are_real(self):
-        for votes, seats in all_cases():
-            given, tied, free = by_remainders(votes, seats)
-            self.assertEqual(len(given), len(votes))
-            self.assertEqual(sum(given) + free, seats)
-            self.assertEqual(tied, sorted(set(tied)))
-            if tied:
-                self.assertTrue(0 < free < len(tied))
-            else:
-                self.assertEqual(free, 0)
-
-
 class Promised(unittest.TestCase):
-    def test_more_votes_never_fewer_seats(self):
-        for votes, seats in small_cases():
-            for settled in settlements(by_remainders(votes, seats)):
-                for one, other in itertools.permutations(range(len(votes)), 2):
-                    if votes[one] > votes[other]:
-                        self.assertGreaterEqual(settled[one], settled[other], (votes, seats))
-
-    def test_equal_votes_equal_seats_and_both_tied_or_none(self):
-        for votes, seats in all_cases():
-            given, tied, free = by_remainders(votes, seats)
-            for one, other in itertools.combinations(range(len(votes)), 2):
-                if votes[one] == votes[other]:
-                    self.assertEqual(given[one], given[other], (votes, seats))
-                    self.assertEqual(one in tied, other in tied, (votes, seats))
-
     def test_less_than_a_seat_from_the_share(self):
         for votes, seats in small_cases():
             for settled in settlements(by_remainders(votes, seats)):
@@ -227,7 +161,7 @@ class Promised(unittest.TestCase):
                     self.assertLess(abs(count - share), 1, (votes, seats))
 
     def test_large_deals_settled_for_and_against_each_list(self):
-        for votes, seats in large_cases():
+        for votes, seats in large_cases(most=2000):
             given, tied, free = by_remainders(votes, seats)
             least = given
             most = [count + (place in tied) for place, count in enumerate(given)]
@@ -237,28 +171,6 @@ class Promised(unittest.TestCase):
             for one, other in itertools.permutations(range(len(votes)), 2):
                 if votes[one] > votes[other]:
                     self.assertGreaterEqual(least[one], most[other])
-
-
-class HandedIn(unittest.TestCase):
-    def test_votes_stay_as_they_were(self):
-        for votes, seats in all_cases():
-            before = list(votes)
-            whole_seats(votes, seats)
-            by_remainders(votes, seats)
-            self.assertEqual(votes, before)
-
-    def test_answers_are_lists_of_their_own(self):
-        votes = [2, 1, 1]
-        given, tied, free = by_remainders(votes, 2)
-        given.append(9)
-        tied.append(9)
-        whole_seats(votes, 4).append(9)
-        untied = by_remainders(votes, 4)
-        untied[0].append(9)
-        untied[1].append(9)
-        self.assertEqual(votes, [2, 1, 1])
-        self.assertEqual(by_remainders(votes, 2), ([1, 0, 0], [1, 2], 1))
-        self.assertEqual(by_remainders(votes, 4), ([2, 1, 1], [], 0))
 
 
 if __name__ == "__main__":

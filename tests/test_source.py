@@ -27,7 +27,7 @@ def walk_all():
 class Source(unittest.TestCase):
     def test_package_is_there(self):
         names = [path.name for path in sources()]
-        for name in ("__init__.py", "errors.py", "remainders.py"):
+        for name in ("__init__.py", "divisors.py", "errors.py", "lots.py", "remainders.py"):
             self.assertIn(name, names)
 
     def test_only_own_modules_are_imported(self):
